@@ -1,0 +1,1 @@
+"""Commands to a craft far away: both ends of a noisy line, a craft and a ground."""

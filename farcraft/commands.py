@@ -6,6 +6,7 @@ from farcraft.ground import Ground
 DONE = 0
 NOT_NOW = -1
 OUT_OF_RANGE = -2
+NOT_BELIEVED = -3
 TOO_LONG = -5
 OTHER_KIND = -9
 
@@ -15,6 +16,7 @@ MOST_WINDOW = 127
 MOST_HEARD = 65536
 MOST_BODY = 1017
 MOST_ASKED = 65536
+MOST_ORDER = 256
 
 
 class Line:
@@ -43,6 +45,14 @@ class Line:
 
 def in_ranges(name, channel, window):
     return 0 <= name <= MOST_NAME and 0 <= channel <= MOST_CHANNEL and 1 <= window <= MOST_WINDOW
+
+
+def is_body_size(n):
+    return 1 <= n <= MOST_BODY
+
+
+def with_count(data):
+    return [len(data)] + data
 
 
 def call_craft(line):
@@ -85,7 +95,7 @@ def call_give(line):
     if len(packet) > most:
         return [TOO_LONG]
     line.craft.let_oldest_go()
-    return [len(packet)] + packet
+    return with_count(packet)
 
 
 def call_ground(line):
@@ -104,12 +114,73 @@ def call_send(line):
     body = line.take_row()
     if line.ground is None:
         return [OTHER_KIND]
-    if n < 1 or n > MOST_BODY:
+    if not is_body_size(n):
         return [OUT_OF_RANGE]
     if not line.ground.has_place():
         return [NOT_NOW]
     line.ground.add_body(body)
     return [DONE]
+
+
+def call_next(line):
+    most = line.take_number()
+    if line.ground is None:
+        return [OTHER_KIND]
+    if most > MOST_ASKED:
+        return [OUT_OF_RANGE]
+    if not line.ground.may_send_next():
+        return [NOT_NOW]
+    message = line.ground.next_message()
+    if len(message) > most:
+        return [TOO_LONG]
+    line.ground.count_next_as_sent()
+    return with_count(message)
+
+
+def call_heard(line):
+    report = line.take_row()
+    if line.ground is None:
+        return [OTHER_KIND]
+    if not line.ground.believes(report):
+        return [NOT_BELIEVED]
+    confirmed = line.ground.confirmed_by(report)
+    line.ground.take_report(report)
+    return [confirmed]
+
+
+def call_over(line):
+    if line.ground is None:
+        return [OTHER_KIND]
+    line.ground.send_all_over()
+    return [DONE]
+
+
+def call_order(line):
+    v = line.take_number()
+    most = line.take_number()
+    if line.ground is None:
+        return [OTHER_KIND]
+    if v < 0 or v > MOST_ORDER or most > MOST_ASKED:
+        return [OUT_OF_RANGE]
+    message = line.ground.order_message(v)
+    if len(message) > most:
+        return [TOO_LONG]
+    line.ground.count_order_as_sent(v)
+    return with_count(message)
+
+
+def call_past(line):
+    n = line.take_number()
+    most = line.take_number()
+    body = line.take_row()
+    if line.ground is None:
+        return [OTHER_KIND]
+    if not is_body_size(n) or most > MOST_ASKED:
+        return [OUT_OF_RANGE]
+    message = line.ground.past_message(body)
+    if len(message) > most:
+        return [TOO_LONG]
+    return with_count(message)
 
 
 CALLS = {
@@ -119,6 +190,11 @@ CALLS = {
     3: call_give,
     4: call_ground,
     5: call_send,
+    6: call_next,
+    7: call_heard,
+    8: call_over,
+    9: call_order,
+    10: call_past,
 }
 
 

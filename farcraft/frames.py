@@ -1,4 +1,4 @@
-"""Frames: what a message's bytes hold for one name and channel."""
+"""Frames of one name and channel: written as bytes, and found in a message's bytes."""
 
 PAST_BIT = 32
 CONTROL_BIT = 16
@@ -28,6 +28,20 @@ def frame_sum(data):
             if total > 0xFFFF:
                 total = (total ^ 0x1021) & 0xFFFF
     return total
+
+
+def frame_bytes(frame, name, channel):
+    """The five bytes, the body and the sum of this frame."""
+    first = name >> 8
+    if frame.past:
+        first = first + PAST_BIT
+    if frame.control:
+        first = first + CONTROL_BIT
+    less_one = HEAD_BYTES + len(frame.body) + SUM_BYTES - 1
+    head = [first, name & 255, 4 * channel + (less_one >> 8), less_one & 255, frame.number]
+    data = head + frame.body
+    total = frame_sum(data)
+    return data + [total >> 8, total & 255]
 
 
 def frame_end(data, start, name, channel):

@@ -1,4 +1,4 @@
-"""Messages on the noisy line: where one begins, its blocks, and where it ends."""
+"""Messages on the noisy line: how one is made, where one begins, its blocks, and where it ends."""
 
 BEGINNING = 0xEB90
 BEGINNING_BITS = 16
@@ -9,6 +9,9 @@ CHECK_MASK = 127
 # x^7 + x^6 + x^2 + 1
 DIVISOR = 0xC5
 MOST_MESSAGE_BYTES = 4096
+BYTES_IN_BLOCK = 7
+FILLING = 0x55
+TAIL = (0xC5, 0xC5, 0xC5, 0xC5, 0xC5, 0xC5, 0xC5, 0x79)
 
 
 def left_over(word):
@@ -18,6 +21,25 @@ def left_over(word):
         if ((rest >> place) & 1) == 1:
             rest = rest ^ (DIVISOR << (place - CHECK_BITS))
     return rest
+
+
+def block_of(seven):
+    """These seven bytes and the one behind them."""
+    word = 0
+    for byte in seven:
+        word = (word << 8) | byte
+    rest = left_over(word << CHECK_BITS)
+    return seven + [(rest ^ CHECK_MASK) << 1]
+
+
+def message_of(data):
+    """The message that carries these bytes."""
+    message = [BEGINNING >> 8, BEGINNING & 255]
+    for start in range(0, len(data), BYTES_IN_BLOCK):
+        seven = data[start:start + BYTES_IN_BLOCK]
+        filling = [FILLING] * (BYTES_IN_BLOCK - len(seven))
+        message.extend(block_of(seven + filling))
+    return message + list(TAIL)
 
 
 def turned_place(rest):

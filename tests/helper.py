@@ -46,6 +46,38 @@ def send_refused(n):
     return [5, n, 0]
 
 
+def take(most=ALL):
+    """tc_next."""
+    return [6, most]
+
+
+def heard(*r):
+    return [7, len(r)] + list(r)
+
+
+def confirm(number, marks=0, channel=CHANNEL):
+    """A report that a craft of this channel would give."""
+    return heard(1, 4 * channel, marks, number)
+
+
+def over():
+    return [8]
+
+
+def ask_order(v, most=ALL):
+    """tc_order."""
+    return [9, v, most]
+
+
+def ask_past(body, most=ALL):
+    """tc_past."""
+    return [10, len(body), most, len(body)] + list(body)
+
+
+def ask_past_refused(n, most=ALL):
+    return [10, n, most, 0]
+
+
 def ask(*calls):
     """The answers to these calls, a list of numbers each."""
     numbers = answers([number for call in calls for number in call])
@@ -165,6 +197,26 @@ def status(next_number=0, count=0, locked=False, wait=False, again=False, channe
 
 def given(data, list_number=0):
     return [len(data) + 1, list_number] + list(data)
+
+
+def carried(one):
+    """The answer that is the message of this frame."""
+    data = message(one)
+    return [len(data)] + data
+
+
+def bodies_left(*calls):
+    """The frames' numbers and bodies that a ground's messages have from here on, when these calls are through."""
+    got = ask(*(list(calls) + [take()] * 66))[len(calls):]
+    frames = [frame_in(answer[1:]) for answer in got if answer[0] >= 0]
+    return [(one[4], one[5:-2]) for one in frames]
+
+
+def frame_in(data):
+    """The bytes of the one frame in this message; nothing is checked."""
+    inside = data[2:-8]
+    held = [byte for k, byte in enumerate(inside) if k % 8 != 7]
+    return held[:(held[2] % 4) * 256 + held[3] + 1]
 
 
 def packets_after(*calls):

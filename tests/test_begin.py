@@ -3,7 +3,8 @@
 import unittest
 
 from tests.helper import (
-    ask, craft, frame, give, given, ground, hear, hear_frames, lock, message, packet, past, report, send, status)
+    ask, ask_order, bodies_left, carried, confirm, craft, frame, give, given, ground, hear, hear_frames, lock, message,
+    packet, past, report, send, status, take)
 
 WITHIN = [
     (0, 0, 1), (1023, 63, 127), (0, 63, 127), (1023, 0, 1), (512, 31, 64), (0, 0, 127), (255, 1, 2), (256, 62, 126),
@@ -83,6 +84,32 @@ class BeginGround(unittest.TestCase):
     def test_refused_leaves_the_bodies(self):
         got = ask(ground(), *([send([1])] * 63 + [ground(0, 64, 1)] + [send([2])] * 2))
         self.assertEqual(got[-3:], [[-2], [0], [-1]])
+
+    def test_its_own_name_channel_and_window(self):
+        for name, channel, window in WITHIN:
+            with self.subTest(name=name, channel=channel, window=window):
+                calls = [ground(name, channel, window), *[send([k]) for k in range(64)], *[take()] * 65]
+                got = ask(*calls, confirm(1, channel=channel))[65:]
+                may = min(window, 64)
+                self.assertEqual(got[:may], [carried(frame(k, [k], name=name, channel=channel)) for k in range(may)])
+                self.assertEqual(got[may:], [[-1]] * (65 - may) + [[1]])
+
+    def test_refused_leaves_all_as_it_was(self):
+        begun = [ground(), *[send([k]) for k in range(5)], ask_order(9), *[take()] * 3, confirm(10)]
+        for where in OUTSIDE:
+            for refused in (ground(*where), craft(*where)):
+                with self.subTest(refused=refused):
+                    self.assertEqual(ask(*begun, refused, confirm(13), confirm(12))[-3:], [[-2], [-3], [2]])
+                    self.assertEqual(bodies_left(*begun, refused), [(12, [3]), (13, [4])])
+
+    def test_base_and_counts_begin_anew(self):
+        begun = [ground(), *[send([k]) for k in range(5)], ask_order(9), *[take()] * 3, confirm(10)]
+        for anew in ([ground()], [craft(), ground()]):
+            with self.subTest(anew=anew):
+                self.assertEqual(ask(*begun, *anew, take(), confirm(10), confirm(0))[-3:], [[-1], [-3], [0]])
+                calls = begun + anew + [send([7]), send([8])]
+                self.assertEqual(ask(*calls, confirm(1), confirm(0))[-2:], [[-3], [0]])
+                self.assertEqual(bodies_left(*calls), [(0, [7]), (1, [8])])
 
     def test_begins_anew(self):
         got = ask(ground(), *([send([1])] * 65 + [ground()] + [send([2])] * 65))
